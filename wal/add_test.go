@@ -259,41 +259,32 @@ func leftovers() [][]string {
 	}
 }
 
-// byHand: a disk with these leftovers, over which the sectors of a deed were laid.
-func byHand(t *testing.T, left []string, next []api.Op) *disk.Disk {
+// walled: a disk of 16 sectors with a log's on all but the first and the last one, which have other bytes.
+func walled(t *testing.T, all []string) *disk.Disk {
 	t.Helper()
 	d := made(t, 16)
-	lay(t, d, 1, left...)
-	for i, o := range next {
-		lay(t, d, 1+i, oSector(uint32(5+i), o))
-	}
-	lay(t, d, 1+len(next), cSector(uint32(5+len(next)), len(next)))
+	lay(t, d, 0, "ahead")
+	lay(t, d, 1, all...)
+	lay(t, d, 15, "behind")
 	return d
 }
 
-// H2: whatever was left behind the last deed, one more is there whole, or not at all, and no sectors but its own are written.
+// H2: whatever was left behind the last deed, one more is there whole, or not at all, and nothing else is; no sectors but the log's are written.
 func TestLeftovers(t *testing.T) {
 	for _, left := range leftovers() {
 		for size := range 5 {
 			next := ops(20, size)
-			hand := byHand(t, left, next)
-			_, want := opened(t, hand, 1, 14, 5)
-			if told(want[:1]) != told([][]api.Op{next}) {
-				t.Fatalf("%s", told(want))
-			}
-			for step := -1; step < 2*size+7; step++ {
+			for step := -1; step < size+9; step++ {
 				for keep := range uint64(1 << 7) {
-					d := made(t, 16)
-					lay(t, d, 1, left...)
+					d := walled(t, left)
 					stand(t, d, 1, 14, 5, nil)
 					l, _ := opened(t, d, 1, 14, 5)
 					must := fallAt(t, d, l, next, step, keep)
-					_, deeds := opened(t, d, 1, 14, 5)
-					if told(deeds) != told(want) && (must || len(deeds) > 0) {
-						t.Fatalf("%s, wanted %s", told(deeds), told(want))
+					if must != (l.Room() == 13-size) {
+						t.Fatalf("room %d behind %s", l.Room(), told([][]api.Op{next}))
 					}
-					own := 64 * (1 + size + 1)
-					if got := image(t, d); must && got != image(t, hand) || got[own:] != image(t, hand)[own:] {
+					whole(t, d, nil, next, must)
+					if all := image(t, d); all[:5] != "ahead" || all[15*64:15*64+6] != "behind" {
 						t.Fatalf("behind %d steps, with %b kept: other sectors were written", step, keep)
 					}
 				}
@@ -302,7 +293,93 @@ func TestLeftovers(t *testing.T) {
 	}
 }
 
-// H2: sectors that aren't the deed's stay as they are, in the log and outside it.
+// H2: a deed that is added has none behind it, wherever the log ends, and whatever stands on the sectors behind.
+func TestNoneBehind(t *testing.T) {
+	o := func(i int) string { return oSector(uint32(1+i), op(500+i)) }
+	c := func(i, count int) string { return cSector(uint32(1+i), count) }
+	for _, x := range []struct {
+		what string
+		all  []string
+		many int
+		next []api.Op
+	}{
+		{"another count", []string{o(0), o(1), o(2), c(3, 2)}, 6, nil},
+		{"empty ones", []string{"", c(1, 0), c(2, 0)}, 6, nil},
+		{"one", []string{"", "", o(2), c(3, 1)}, 6, ops(1, 1)},
+		{"one at the end", []string{"", "", o(2), c(3, 1)}, 4, ops(1, 1)},
+		{"one that the end cuts", []string{"", "", o(2), c(3, 1)}, 3, ops(1, 1)},
+		{"one behind the end", []string{"", "", o(2), c(3, 1)}, 2, ops(1, 1)},
+		{"one on the last sector", []string{"", "", "", "", "", "", "", "", c(8, 0)}, 9, ops(1, 7)},
+		{"one behind operations", []string{"", "", o(2), o(3), o(4), c(5, 3), c(6, 0)}, 9, ops(1, 1)},
+		{"one on each sector but the first", []string{"", c(1, 0), c(2, 0), c(3, 0), c(4, 0), c(5, 0), c(6, 0), c(7, 0), c(8, 0)}, 9, ops(1, 3)},
+	} {
+		t.Run(x.what, func(t *testing.T) {
+			d := made(t, 9)
+			lay(t, d, 0, x.all...)
+			behind := image(t, d)[64*x.many:]
+			l, _ := opened(t, d, 0, x.many, 1)
+			want := [][]api.Op{x.next}
+			adds(t, l, x.next)
+			for {
+				if l.Room() != x.many-sectors(want) {
+					t.Errorf("room %d of %d with %s", l.Room(), x.many, told(want))
+				}
+				d.Restart(0)
+				stand(t, d, 0, x.many, 1, want)
+				if l.Room() == 0 {
+					break
+				}
+				adds(t, l, nil) // the next one over what is left
+				want = and(want, nil)
+			}
+			if image(t, d)[64*x.many:] != behind {
+				t.Errorf("sectors behind the log were written")
+			}
+		})
+	}
+}
+
+// H2: all logs of four sectors, each without anything, with an operation, or closing up to two: a fall at any step, with any of the writes kept, and a deed behind it.
+func TestAllLeftovers(t *testing.T) {
+	const many = 4
+	for all := range 5 * 5 * 5 * 5 {
+		var left []string
+		for i, n := 0, all; i < many; i, n = i+1, n/5 {
+			left = append(left, []string{"", oSector(uint32(1+i), op(500+i)), cSector(uint32(1+i), 0), cSector(uint32(1+i), 1), cSector(uint32(1+i), 2)}[n%5])
+		}
+		for size := range many {
+			for step := range size + many + 5 { // the last one is behind all of its steps
+				for keep := range uint64(1 << many) {
+					allLeftovers(t, left, size, step, keep)
+				}
+			}
+		}
+	}
+}
+
+// allLeftovers: one of these.
+func allLeftovers(t *testing.T, left []string, size, step int, keep uint64) {
+	t.Helper()
+	d := made(t, len(left))
+	lay(t, d, 0, left...)
+	l, there := opened(t, d, 0, len(left), 1)
+	if size >= l.Room() {
+		return
+	}
+	next := ops(20, size)
+	must := fallAt(t, d, l, next, step, keep)
+	l, deeds := opened(t, d, 0, len(left), 1)
+	if told(deeds) != told(and(there, next)) && (must || told(deeds) != told(there)) {
+		t.Fatalf("%q: %s: there were %s, and %s", left, told(deeds), told(there), told([][]api.Op{next}))
+	}
+	if room := l.Room(); room > 0 {
+		last := ops(30, room/2)
+		adds(t, l, last)
+		stand(t, d, 0, len(left), 1, and(deeds, last))
+	}
+}
+
+// H2: sectors outside the log, and those of its deeds, stay as they are.
 func TestOutsideStays(t *testing.T) {
 	d := made(t, 16)
 	for at := range 16 {
@@ -316,9 +393,9 @@ func TestOutsideStays(t *testing.T) {
 	d.Write(5, "")
 	l, _ = opened(t, d, 4, 3, 8)
 	adds(t, l, nil)
-	stand(t, d, 4, 3, 8, [][]api.Op{{}, {}, {}})
-	for _, at := range []int{0, 3, 4, 5, 6, 7, 15} {
-		if s, _ := d.Read(at); s[:10] != cSector(uint32(at+4), 0) {
+	stand(t, d, 4, 3, 8, [][]api.Op{{}, {}})
+	for at := range 16 {
+		if s, _ := d.Read(at); at != 6 && s[:10] != cSector(uint32(at+4), 0) {
 			t.Errorf("sector %d: %q", at, s)
 		}
 	}
