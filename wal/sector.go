@@ -1,6 +1,9 @@
 package wal
 
-import "basiskeep/api"
+import (
+	"basiskeep/api"
+	"basiskeep/pack"
+)
 
 // Kinds of sectors that are written.
 const (
@@ -19,7 +22,7 @@ func (l *Log) read(i int) (byte, string, error) {
 	}
 	long := int(s[head-1])
 	known := s[0] == operation || s[0] == closing
-	if !known || s[1:head-1] != fourBytes(l.first+i) || long > api.Sector-head {
+	if !known || numberOf(s) != uint32(l.first+i) || long > api.Sector-head {
 		return 0, "", nil
 	}
 	return s[0], s[head : head+long], nil
@@ -28,17 +31,11 @@ func (l *Log) read(i int) (byte, string, error) {
 // write the i-th sector of a log.
 func (l *Log) write(i int, kind byte, body string) error {
 	s := []byte{kind}
-	s = append(s, fourBytes(l.first+i)...)
+	s = append(s, pack.Four(uint32(l.first+i))...)
 	s = append(s, byte(len(body)))
 	s = append(s, body...)
 	return l.on.Write(l.from+i, string(s))
 }
 
-// fourBytes of a number, modulo 2 to the power 32, the lowest first.
-func fourBytes(n int) string {
-	var s [4]byte
-	for i := range len(s) {
-		s[i] = byte(n >> (8 * i))
-	}
-	return string(s[:])
-}
+// numberOf a sector, if it is written.
+func numberOf(s string) uint32 { return pack.Number(s[1:]) }
